@@ -1,0 +1,1 @@
+"""Wardrobes of sails: which sails are bought, for the least."""
